@@ -1,0 +1,1 @@
+"""Pathglob: lists of path patterns that keep and drop the entries of a tree."""
