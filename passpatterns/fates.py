@@ -11,6 +11,11 @@ def matched_ends(pattern, is_directory, rest):
     return ends
 
 
+def matches(pattern, is_directory, path):
+    """Whether the pattern, its list standing at the root, matches the entry."""
+    return len(path) in matched_ends(pattern, is_directory, path)
+
+
 def choose_lines(chosen, number, pattern_list, is_directory, path):
     """Puts the lines of one list over those chosen so far, wherever they match."""
     start = len(pattern_list.directory)

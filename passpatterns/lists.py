@@ -1,11 +1,15 @@
 """The interface: the calls on one object as one list of whole numbers, and their answers as another."""
 
+from passpatterns.questions import fits, least
 from passpatterns.store import Store
 
 ADD = 0
 DROP = 1
 LISTS = 2
 BECOMES = 3
+RULE = 4
+FITS = 5
+LEAST = 6
 
 
 class UnknownCall(ValueError):
@@ -46,6 +50,15 @@ def answer(store, reader):
     if call == BECOMES:
         is_directory = reader.number()
         return store.becomes(is_directory, reader.row())
+    if call == RULE:
+        number = reader.number()
+        return store.rule(number, reader.number())
+    if call == FITS:
+        is_directory = reader.number()
+        pattern = reader.row()
+        return fits(is_directory, pattern, reader.row())
+    if call == LEAST:
+        return least(reader.row())
     raise UnknownCall(f"there is no call {call}")
 
 

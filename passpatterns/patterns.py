@@ -39,20 +39,27 @@ def part_cells(part):
     place = 0
     while place < len(part):
         found = read_cell(part, place)
-        cells.append(found[0])
+        # The last of several stars in a row makes all that they make: more of them would only be more to go through.
+        if part[place:place + 2] != [STAR, STAR]:
+            cells.append(found[0])
         place = found[1]
     return cells
 
 
+def is_many_parts(part):
+    return part == [STAR, STAR]
+
+
 def pattern_cells(parts):
     cells = []
-    for part in parts[:-1]:
-        if part == [STAR, STAR]:
-            cells.append(any_parts_cell())
-        else:
+    for place, part in enumerate(parts[:-1]):
+        if not is_many_parts(part):
             cells.extend(part_cells(part))
             cells.append(slash_cell())
-    if parts[-1] == [STAR, STAR]:
+        elif not is_many_parts(parts[place + 1]):
+            # Likewise the last of several `**` in a row makes all that they make, also at the pattern's end.
+            cells.append(any_parts_cell())
+    if is_many_parts(parts[-1]):
         cells.append(last_parts_cell())
     else:
         cells.extend(part_cells(parts[-1]))

@@ -24,6 +24,17 @@ class PatternList:
         return len([line for line in self.lines if line is not None])
 
 
+def rule_number(pattern):
+    number = 1
+    if pattern.keeps:
+        number += 2
+    if pattern.for_directories:
+        number += 4
+    if pattern.anchored:
+        number += 8
+    return number
+
+
 def have_room(lists):
     patterns = sum([pattern_list.pattern_count() for pattern_list in lists])
     size = sum([pattern_list.size for pattern_list in lists])
@@ -64,3 +75,14 @@ class Store:
         if not is_path(path):
             return [-1]
         return fate(self.lists, is_directory != 0, path)
+
+    def rule(self, number, line):
+        if number >= len(self.lists):
+            return [-1]
+        lines = self.lists[number].lines
+        if line < 1 or line > len(lines):
+            return [-1]
+        pattern = lines[line - 1]
+        if pattern is None:
+            return [0]
+        return [rule_number(pattern)]

@@ -31,6 +31,25 @@ def becomes(path, is_directory=0):
     return [3, is_directory] + counted(path)
 
 
+def rule(number, line):
+    return [4, number, line]
+
+
+def fits(pattern, path, is_directory=0):
+    return [5, is_directory] + counted(pattern) + counted(path)
+
+
+def least(*lines):
+    """The call least on a text of these lines."""
+    text = [number for line in lines for number in row(line) + row("\n")][:-1]
+    return [6] + counted(text)
+
+
+def numbers_of(call):
+    """How many numbers stand in a call, the lengths of its rows not among them."""
+    return len(call) - {0: 2, 3: 1, 5: 2, 6: 1}.get(call[0], 0)
+
+
 def run(*calls):
     """The answer of each call, all of them made on one new object."""
     given = answers([number for call in calls for number in call])
@@ -54,8 +73,13 @@ def matches(pattern, path, is_directory=0):
     """Whether the pattern, the one line of a list at the root, matches the entry, with nothing above it dropped.
 
     The pattern is set behind a `!`: then no directory above is dropped, and what it matches is kept by line 1.
+    fits must answer the same, of each pattern that it takes.
     """
-    added, fate = run(add("", "!" + pattern), becomes(path, is_directory))
+    added, fate, with_bang, without = run(
+        add("", "!" + pattern), becomes(path, is_directory),
+        fits("!" + pattern, path, is_directory), fits(pattern, path, is_directory))
     assert added == [0], pattern
     assert fate in ([0], [1, 0, 1]), fate
+    assert with_bang == ([-1] if len(pattern) > 127 else [fate[0]]), (pattern, path, with_bang)
+    assert without == ([-1] if len(pattern) > 128 else [fate[0]]), (pattern, path, without)
     return fate == [1, 0, 1]
